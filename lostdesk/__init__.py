@@ -1,0 +1,1 @@
+"""Lostdesk: what was found, who lost it, and who gets what."""

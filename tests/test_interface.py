@@ -1,0 +1,59 @@
+"""The interface: what it lists is defined in the file, and in the class, under which it stands."""
+
+import ast
+import importlib
+import unittest
+
+CLASSES = {
+    "catalogs": {"Catalog": ["features", "names", "__getitem__", "__contains__", "__len__", "__eq__"]},
+    "notes": {"Note": ["catalog", "description_count", "both", "narrowed", "__getitem__", "__eq__"]},
+}
+FUNCTIONS = {}
+PARAMETERS = {
+    ("catalogs", "Catalog"): ["features"],
+    ("notes", "Note"): ["catalog", "told"],
+    ("notes", "Note.both"): ["other"],
+    ("notes", "Note.narrowed"): ["name", "value"],
+}
+
+
+def tree_of(module):
+    """Return the parsed file of a module of the package."""
+    with open(importlib.import_module(f"lostdesk.{module}").__file__, encoding="utf-8") as file:
+        return ast.parse(file.read())
+
+
+def defined(body):
+    """Return the classes and functions that are defined in the rows of a file or a class."""
+    return {row.name: row for row in body if isinstance(row, (ast.ClassDef, ast.FunctionDef))}
+
+
+class InterfaceTest(unittest.TestCase):
+    def test_classes_define_what_is_listed(self):
+        for module, classes in CLASSES.items():
+            found = defined(tree_of(module).body)
+            for name, members in classes.items():
+                with self.subTest(module=module, name=name):
+                    self.assertIsInstance(found.get(name), ast.ClassDef)
+                    self.assertLessEqual(set(members), set(defined(found[name].body)))
+
+    def test_functions_stand_in_their_files(self):
+        for module, names in FUNCTIONS.items():
+            found = defined(tree_of(module).body)
+            for name in names:
+                with self.subTest(module=module, name=name):
+                    self.assertIsInstance(found.get(name), ast.FunctionDef)
+
+    def test_parameters_are_named_as_listed(self):
+        for (module, path), parameters in PARAMETERS.items():
+            with self.subTest(module=module, path=path):
+                row = tree_of(module)
+                for name in path.split("."):
+                    row = defined(row.body)[name]
+                row = defined(row.body)["__init__"] if isinstance(row, ast.ClassDef) else row
+                names = [one.arg for one in row.args.args if one.arg != "self"]
+                self.assertEqual(names, parameters)
+
+
+if __name__ == "__main__":
+    unittest.main()
