@@ -7,13 +7,45 @@ import unittest
 CLASSES = {
     "catalogs": {"Catalog": ["features", "names", "__getitem__", "__contains__", "__len__", "__eq__"]},
     "notes": {"Note": ["catalog", "description_count", "both", "narrowed", "__getitem__", "__eq__"]},
+    "offices": {
+        "Thing": ["note", "day", "__eq__"],
+        "Claim": ["note", "day", "slips", "worth", "__eq__"],
+        "Office": ["catalog", "things", "claims", "with_thing", "with_claim", "without", "__contains__", "__eq__"],
+    },
 }
-FUNCTIONS = {}
+FUNCTIONS = {
+    "fitting": ["misfits", "fits", "shared_count", "candidates", "lonely", "rivals"],
+    "matches": ["match_count", "most_pairs", "first_match", "matches", "judge", "sure_pairs", "served"],
+    "scores": ["score", "best_match", "shown_bound", "best_prices"],
+}
 PARAMETERS = {
     ("catalogs", "Catalog"): ["features"],
     ("notes", "Note"): ["catalog", "told"],
     ("notes", "Note.both"): ["other"],
     ("notes", "Note.narrowed"): ["name", "value"],
+    ("offices", "Thing"): ["note", "day"],
+    ("offices", "Claim"): ["note", "day", "slips", "worth"],
+    ("offices", "Office"): ["catalog", "things", "claims"],
+    ("offices", "Office.with_thing"): ["label", "thing"],
+    ("offices", "Office.with_claim"): ["label", "claim"],
+    ("offices", "Office.without"): ["label"],
+    ("fitting", "misfits"): ["office", "claim", "thing"],
+    ("fitting", "fits"): ["office", "claim", "thing"],
+    ("fitting", "shared_count"): ["office", "claim", "thing"],
+    ("fitting", "candidates"): ["office", "label"],
+    ("fitting", "lonely"): ["office"],
+    ("fitting", "rivals"): ["office", "claim"],
+    ("matches", "match_count"): ["office", "size"],
+    ("matches", "most_pairs"): ["office"],
+    ("matches", "first_match"): ["office"],
+    ("matches", "matches"): ["office"],
+    ("matches", "judge"): ["office", "claim", "thing"],
+    ("matches", "sure_pairs"): ["office"],
+    ("matches", "served"): ["office", "label"],
+    ("scores", "score"): ["office", "claim", "thing"],
+    ("scores", "best_match"): ["office"],
+    ("scores", "shown_bound"): ["office", "prices"],
+    ("scores", "best_prices"): ["office"],
 }
 
 

@@ -1,0 +1,68 @@
+"""Matches: who can get what, if as many as possible are served."""
+
+from lostdesk.errors import InvalidNumber, TooMany
+from lostdesk.fitting import fits
+from lostdesk.pairing import all_choices, as_match, first_choice, plain_rows, size_counts
+
+MOST_LISTED = 5000
+
+
+def match_count(office, size):
+    """Return how many matches have just so many pairs."""
+    if size < 0:
+        raise InvalidNumber(f"a match cannot have {size} pairs")
+    counts = size_counts(plain_rows(office))
+    return counts[size] if size < len(counts) else 0
+
+
+def most_pairs(office):
+    """Return the greatest number of pairs of a match."""
+    return len(size_counts(plain_rows(office))) - 1
+
+
+def greatest_count(office):
+    """Return how many greatest matches there are."""
+    return size_counts(plain_rows(office))[-1]
+
+
+def first_match(office):
+    """Return the first greatest match."""
+    return as_match(office, first_choice(plain_rows(office)))
+
+
+def matches(office):
+    """Yield all greatest matches, in order."""
+    if greatest_count(office) > MOST_LISTED:
+        raise TooMany(f"more than {MOST_LISTED} greatest matches")
+    for choice in all_choices(plain_rows(office)):
+        yield as_match(office, choice)
+
+
+def told_part(part, whole, words):
+    """Return the first of three words for all, the second for some, the third for none."""
+    if part == 0:
+        return words[2]
+    return words[0] if part == whole else words[1]
+
+
+def judge(office, claim, thing):
+    """Return "surely", "perhaps" or "never", as a pair is in all, some or no greatest matches."""
+    if not fits(office, claim, thing):
+        return "never"
+    rest = office.without(claim).without(thing)
+    having = match_count(rest, most_pairs(office) - 1)
+    return told_part(having, greatest_count(office), ("surely", "perhaps", "never"))
+
+
+def sure_pairs(office):
+    """Return the match of all pairs that are in all greatest matches."""
+    # Such a pair is in the first one, too.
+    first = first_match(office)
+    return {claim: thing for claim, thing in first.items() if judge(office, claim, thing) == "surely"}
+
+
+def served(office, label):
+    """Return "always", "sometimes" or "never", as a label has a pair in all, some or no greatest matches."""
+    whole = greatest_count(office)
+    having = whole - match_count(office.without(label), most_pairs(office))
+    return told_part(having, whole, ("always", "sometimes", "never"))
