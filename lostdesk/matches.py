@@ -2,6 +2,7 @@
 
 from lostdesk.errors import InvalidNumber, TooMany
 from lostdesk.fitting import fits
+from lostdesk.offices import is_count
 from lostdesk.pairing import all_choices, as_match, first_choice, plain_rows, size_counts
 
 MOST_LISTED = 5000
@@ -9,7 +10,7 @@ MOST_LISTED = 5000
 
 def match_count(office, size):
     """Return how many matches have just so many pairs."""
-    if size < 0:
+    if not is_count(size):
         raise InvalidNumber(f"a match cannot have {size} pairs")
     counts = size_counts(plain_rows(office))
     return counts[size] if size < len(counts) else 0

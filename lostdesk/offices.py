@@ -9,11 +9,21 @@ MOST_WORTH = 10 ** 9
 MOST_ENTRIES = 8
 
 
+def is_count(number):
+    """Tell whether a number is an integer that is not below 0; a boolean is none."""
+    return not isinstance(number, bool) and number >= 0
+
+
+def in_range(number, least, most):
+    """Tell whether a number is an integer from the least to the most one; a boolean is none."""
+    return not isinstance(number, bool) and least <= number <= most
+
+
 class Thing:
     """What was found on a day; it never changes."""
 
     def __init__(self, note, day):
-        if not 0 <= day <= LAST_DAY:
+        if not in_range(day, 0, LAST_DAY):
             raise InvalidEntry("day")
         self._note = note
         self._day = day
@@ -36,11 +46,11 @@ class Claim:
     """What somebody lost on a day, with so many features perhaps wrong; it never changes."""
 
     def __init__(self, note, day, slips=0, worth=1):
-        if not 0 <= day <= LAST_DAY:
+        if not in_range(day, 0, LAST_DAY):
             raise InvalidEntry("day")
-        if not 0 <= slips <= MOST_SLIPS:
+        if not in_range(slips, 0, MOST_SLIPS):
             raise InvalidEntry("slips")
-        if not 1 <= worth <= MOST_WORTH:
+        if not in_range(worth, 1, MOST_WORTH):
             raise InvalidEntry("worth")
         self._note = note
         self._day = day

@@ -2,7 +2,7 @@
 
 from lostdesk.errors import InvalidPrices, NotEnough, NotFitting
 from lostdesk.fitting import candidates, fits, misfits
-from lostdesk.offices import claim_of
+from lostdesk.offices import claim_of, in_range
 from lostdesk.pairing import as_match, best_tables, first_choice, plain_rows
 
 # What a point weighs, where each pair weighs 1 more: more than the eight pairs that a match can have.
@@ -40,7 +40,7 @@ def best_match(office):
 def check_prices(office, prices):
     """Raise InvalidPrices if a label has no price, or one that is out of range, or is none of the office."""
     missing = [label for label in list(office.claims) + list(office.things) if label not in prices]
-    wrong = [label for label in prices if label not in office or not 0 <= prices[label] <= HIGHEST_PRICE]
+    wrong = [label for label in prices if label not in office or not in_range(prices[label], 0, HIGHEST_PRICE)]
     if len(missing + wrong) > 0:
         raise InvalidPrices(min(missing + wrong))
 

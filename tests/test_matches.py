@@ -180,6 +180,12 @@ class WrongInputsTest(unittest.TestCase):
                 with self.assertRaises(InvalidNumber):
                     match_count(office, size)
 
+    def test_booleans_are_no_sizes(self):
+        for office in (plain_office(0, 0), plain_office(1, 1), plain_office(2, 2)):
+            for size in (True, False):
+                with self.assertRaises(InvalidNumber):
+                    match_count(office, size)
+
     def test_sizes_above_the_most_pairs(self):
         office = plain_office(3, 2)
         self.assertEqual([match_count(office, size) for size in (2, 3, 4, 8, 9, 100, 10 ** 20)], [6, 0, 0, 0, 0, 0, 0])

@@ -58,8 +58,19 @@ class EntriesTest(unittest.TestCase):
         for worth in (-1, 0, 10 ** 9 + 1, 10 ** 18):
             self.check_part(lambda: Claim(NOTE, 0, 0, worth), "worth")
 
+    def test_booleans_are_no_integers(self):
+        for boolean in (True, False):
+            with self.subTest(boolean=boolean):
+                self.check_part(lambda: Thing(NOTE, boolean), "day")
+                self.check_part(lambda: Claim(NOTE, boolean), "day")
+                self.check_part(lambda: Claim(NOTE, 5, boolean, 1), "slips")
+                self.check_part(lambda: Claim(NOTE, 5, 0, boolean), "worth")
+
     def test_the_first_part_that_is_wrong(self):
         self.check_part(lambda: Claim(NOTE, -1, 3, 0), "day")
+        self.check_part(lambda: Claim(NOTE, True, 3, 0), "day")
+        self.check_part(lambda: Claim(NOTE, 0, True, 0), "slips")
+        self.check_part(lambda: Claim(NOTE, 0, 3, True), "slips")
         self.check_part(lambda: Claim(NOTE, 10 ** 18 + 1, 0, 0), "day")
         self.check_part(lambda: Claim(NOTE, -1, 3), "day")
         self.check_part(lambda: Claim(NOTE, 0, 3, 0), "slips")

@@ -192,6 +192,14 @@ class ShownBoundTest(unittest.TestCase):
             for price in (-1, -10 ** 12, HIGHEST + 1, 10 ** 13):
                 self.check_label({**self.prices, label: price}, label)
 
+    def test_booleans_are_no_prices(self):
+        for label in self.prices:
+            for price in (True, False):
+                self.check_label({**all_prices(self.office, HIGHEST), label: price}, label)
+        self.check_label({**self.prices, "cy": True, "zz": 1}, "cy")
+        self.check_label({**self.prices, "cy": True, "bag": 1}, "bag")
+        self.check_label({**self.prices, "cy": True, "bob": -1}, "bob")
+
     def test_prices_at_the_limits(self):
         self.assertEqual(shown_bound(self.office, all_prices(self.office, HIGHEST)), 5 * HIGHEST)
         self.assertEqual(shown_bound(self.office, {**self.prices, "ann": HIGHEST, "cap": 10, "bob": 0}), HIGHEST + 10)
