@@ -43,6 +43,11 @@ def candidates(office, label):
     raise UnknownLabel(f"no thing and no claim {label}")
 
 
+def all_candidates(office):
+    """Return a dict from each claim to the ascending list of the things that fit it."""
+    return {claim: candidates(office, claim) for claim in office.claims}
+
+
 def lonely(office):
     """Return the ascending list of all labels without candidates."""
     labels = sorted(list(office.things) + list(office.claims))

@@ -19,6 +19,14 @@ def in_range(number, least, most):
     return not isinstance(number, bool) and least <= number <= most
 
 
+def first_wrong(labels, known):
+    """Return the index of the first label that is not known or stands before, or their number if there is none."""
+    for index, label in enumerate(labels):
+        if label not in known or label in labels[:index]:
+            return index
+    return len(labels)
+
+
 class Thing:
     """What was found on a day; it never changes."""
 

@@ -1,5 +1,6 @@
 """What several tests need: the document's examples, offices, and a list of all matches of an office."""
 
+from copy import deepcopy
 from random import Random
 
 from lostdesk.catalogs import Catalog
@@ -114,3 +115,49 @@ def greatest_matches(office):
     found = all_matches(office)
     most = max(len(pairs) for pairs in found)
     return [pairs for pairs in found if len(pairs) == most]
+
+
+def frozen(value):
+    """Return all that a value is made of, as a text that can be compared."""
+    if isinstance(value, dict):
+        return f"dict {[(frozen(key), frozen(item)) for key, item in value.items()]}"
+    if isinstance(value, (list, tuple)):
+        return f"{type(value).__name__} {[frozen(item) for item in value]}"
+    if hasattr(value, "__dict__"):
+        return f"{type(value).__name__} {frozen(vars(value))}"
+    return repr(value)
+
+
+def spoil(value):
+    """Change each list and dict in a value that was returned, as its caller may."""
+    if isinstance(value, (list, tuple, dict)):
+        for item in list(value.values()) if isinstance(value, dict) else list(value):
+            spoil(item)
+    if isinstance(value, (list, dict)):
+        value.clear()
+
+
+def checked(test, call, *arguments):
+    """Call a function twice and return its result, or raise its error: by point 1, nothing may have changed."""
+    before = frozen(arguments)
+    outcomes = []
+    for _ in range(2):
+        try:
+            result = call(*arguments)
+            outcomes.append(deepcopy(result))
+            spoil(result)
+        except DeskError as error:
+            outcomes.append(error)
+        test.assertEqual(frozen(arguments), before)
+    test.assertEqual(frozen(outcomes[0]), frozen(outcomes[1]))
+    if isinstance(outcomes[0], DeskError):
+        raise outcomes[0]
+    return outcomes[0]
+
+
+def told_attributes(test, error, call, *arguments):
+    """Return the attributes of the error that a call must raise, in the order of their names."""
+    with test.assertRaises(error) as caught:
+        checked(test, call, *arguments)
+    test.assertIs(type(caught.exception), error)
+    return [value for _, value in sorted(vars(caught.exception).items())]

@@ -100,6 +100,63 @@ raises InvalidOffice(part='claims', label='cap')
 raises NotEnough(claim='ann', thing='cap')
 """,
     ],
+    "groups": [
+        """
+>>> from lostdesk.catalogs import Catalog
+>>> from lostdesk.notes import Note
+>>> from lostdesk.offices import Claim, Office, Thing
+>>> catalog = Catalog((("hue", ("blue", "red")), ("size", ("big", "small"))))
+>>> red, small = Note(catalog, {"hue": ("red",)}), Note(catalog, {"size": ("small",)})
+>>> things = {"cap": Thing(red, 3), "key": Thing(Note(catalog, {"hue": ("blue",), "size": ("big",)}), 5)}
+>>> office = Office(catalog, things, {"ann": Claim(red, 2, 0, 5), "bob": Claim(small, 4, 1, 2), "cy": Claim(red, 1)})
+>>> from lostdesk.groups import short_group, shown_group
+>>> [short_group(office), shown_group(office, ["cy", "bob", "ann"]), short_group(office.without("cy"))]
+[['ann', 'cy'], 1, None]
+""",
+    ],
+    "handing": [
+        """
+>>> from lostdesk.catalogs import Catalog
+>>> from lostdesk.notes import Note
+>>> from lostdesk.offices import Claim, Office, Thing
+>>> catalog = Catalog((("hue", ("blue", "red")), ("size", ("big", "small"))))
+>>> red, small = Note(catalog, {"hue": ("red",)}), Note(catalog, {"size": ("small",)})
+>>> things = {"cap": Thing(red, 3), "key": Thing(Note(catalog, {"hue": ("blue",), "size": ("big",)}), 5)}
+>>> office = Office(catalog, things, {"ann": Claim(red, 2, 0, 5), "bob": Claim(small, 4, 1, 2), "cy": Claim(red, 1)})
+>>> from lostdesk.handing import handed, in_turn, lossless, pair_loss, score_loss, worst_order
+>>> told = [score_loss(office, "cy", "cap"), pair_loss(office, "cy", "cap"), lossless(office)]
+>>> told + [in_turn(office, ["cy", "bob", "ann"]), worst_order(handed(office, "bob", "key"))]
+[8, 0, [('ann', 'cap'), ('bob', 'key')], {'bob': 'key', 'cy': 'cap'}, (1, ['ann', 'cy'])]
+""",
+        """
+>>> from lostdesk.catalogs import Catalog
+>>> from lostdesk.notes import Note
+>>> from lostdesk.offices import Claim, Office, Thing
+>>> catalog = Catalog((("hue", ("blue", "red")), ("size", ("big", "small"))))
+>>> red, small = Note(catalog, {"hue": ("red",)}), Note(catalog, {"size": ("small",)})
+>>> things = {"cap": Thing(red, 3), "key": Thing(Note(catalog, {"hue": ("blue",), "size": ("big",)}), 5)}
+>>> office = Office(catalog, things, {"ann": Claim(red, 2, 0, 5), "bob": Claim(small, 4, 1, 2), "cy": Claim(red, 1)})
+>>> from lostdesk.handing import in_turn
+>>> in_turn(office, ["cy", "ann"])
+raises InvalidOrder(index=2)
+""",
+    ],
+    "days": [
+        """
+>>> from lostdesk.catalogs import Catalog
+>>> from lostdesk.notes import Note
+>>> from lostdesk.offices import Claim, Office, Thing
+>>> catalog = Catalog((("hue", ("blue", "red")), ("size", ("big", "small"))))
+>>> red, small = Note(catalog, {"hue": ("red",)}), Note(catalog, {"size": ("small",)})
+>>> things = {"cap": Thing(red, 3), "key": Thing(Note(catalog, {"hue": ("blue",), "size": ("big",)}), 5)}
+>>> office = Office(catalog, things, {"ann": Claim(red, 2, 0, 5), "bob": Claim(small, 4, 1, 2), "cy": Claim(red, 1)})
+>>> from lostdesk.days import Terms, changes, first_day, open_on, paired_days, served_days
+>>> terms = Terms(3, 4)
+>>> told = [list(open_on(office, terms, 5).claims), changes(office, terms), first_day(office, terms, 2)]
+>>> told + [served_days(office, terms, "key"), paired_days(office, terms, "ann", "cap")]
+[['ann', 'bob'], [(0, 0), (3, 1), (5, 2), (6, 1), (8, 0)], 5, (3, 0), (1, 2)]
+""",
+    ],
 }
 
 

@@ -12,11 +12,15 @@ CLASSES = {
         "Claim": ["note", "day", "slips", "worth", "__eq__"],
         "Office": ["catalog", "things", "claims", "with_thing", "with_claim", "without", "__contains__", "__eq__"],
     },
+    "days": {"Terms": ["keep", "wait"]},
 }
 FUNCTIONS = {
     "fitting": ["misfits", "fits", "shared_count", "candidates", "lonely", "rivals"],
     "matches": ["match_count", "most_pairs", "first_match", "matches", "judge", "sure_pairs", "served"],
     "scores": ["score", "best_match", "shown_bound", "best_prices"],
+    "groups": ["short_group", "shown_group"],
+    "handing": ["handed", "score_loss", "pair_loss", "lossless", "in_turn", "worst_order", "best_order"],
+    "days": ["open_on", "changes", "first_day", "served_days", "paired_days"],
 }
 PARAMETERS = {
     ("catalogs", "Catalog"): ["features"],
@@ -46,6 +50,21 @@ PARAMETERS = {
     ("scores", "best_match"): ["office"],
     ("scores", "shown_bound"): ["office", "prices"],
     ("scores", "best_prices"): ["office"],
+    ("groups", "short_group"): ["office"],
+    ("groups", "shown_group"): ["office", "claims"],
+    ("handing", "handed"): ["office", "claim", "thing"],
+    ("handing", "score_loss"): ["office", "claim", "thing"],
+    ("handing", "pair_loss"): ["office", "claim", "thing"],
+    ("handing", "lossless"): ["office"],
+    ("handing", "in_turn"): ["office", "order"],
+    ("handing", "worst_order"): ["office"],
+    ("handing", "best_order"): ["office"],
+    ("days", "Terms"): ["keep", "wait"],
+    ("days", "open_on"): ["office", "terms", "day"],
+    ("days", "changes"): ["office", "terms"],
+    ("days", "first_day"): ["office", "terms", "number"],
+    ("days", "served_days"): ["office", "terms", "label"],
+    ("days", "paired_days"): ["office", "terms", "claim", "thing"],
 }
 
 
