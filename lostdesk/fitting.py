@@ -1,6 +1,6 @@
 """Fitting: which things can be those that somebody claims."""
 
-from lostdesk.errors import UnknownLabel
+from lostdesk.errors import NotFitting, UnknownLabel
 from lostdesk.notes import common_values
 from lostdesk.offices import claim_of, thing_of
 
@@ -17,6 +17,12 @@ def fits(office, claim, thing):
     lost = claim_of(office, claim)
     found = thing_of(office, thing)
     return found.day >= lost.day and len(misfits(office, claim, thing)) <= lost.slips
+
+
+def check_fits(office, claim, thing):
+    """Raise NotFitting if a thing does not fit a claim."""
+    if not fits(office, claim, thing):
+        raise NotFitting(f"{thing} does not fit {claim}")
 
 
 def shared_count(office, claim, thing):

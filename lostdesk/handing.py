@@ -1,7 +1,7 @@
 """Handing out: what a thing costs the others that somebody gets, and who gets what in turn."""
 
-from lostdesk.errors import InvalidOrder, NotFitting, TooMany
-from lostdesk.fitting import all_candidates, fits
+from lostdesk.errors import InvalidOrder, TooMany
+from lostdesk.fitting import all_candidates, check_fits
 from lostdesk.matches import most_pairs
 from lostdesk.offices import first_wrong, in_order
 from lostdesk.scores import greatest_score, score
@@ -11,8 +11,7 @@ MOST_ORDERED = 6
 
 def handed(office, claim, thing):
     """Return the office without a claim and the thing that it gets."""
-    if not fits(office, claim, thing):
-        raise NotFitting(f"{thing} does not fit {claim}")
+    check_fits(office, claim, thing)
     return office.without(claim).without(thing)
 
 

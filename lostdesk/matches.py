@@ -46,13 +46,26 @@ def told_part(part, whole, words):
     return words[0] if part == whole else words[1]
 
 
+def pair_part(office, claim, thing):
+    """Return how many greatest matches have a pair, and how many there are."""
+    if not fits(office, claim, thing):
+        return 0, greatest_count(office)
+    counts = size_counts(plain_rows(office))
+    rest = office.without(claim).without(thing)
+    return match_count(rest, len(counts) - 2), counts[-1]
+
+
+def served_part(office, label):
+    """Return how many greatest matches have a claim or a thing, and how many there are."""
+    counts = size_counts(plain_rows(office))
+    lacking = match_count(office.without(label), len(counts) - 1)
+    return counts[-1] - lacking, counts[-1]
+
+
 def judge(office, claim, thing):
     """Return "surely", "perhaps" or "never", as a pair is in all, some or no greatest matches."""
-    if not fits(office, claim, thing):
-        return "never"
-    rest = office.without(claim).without(thing)
-    having = match_count(rest, most_pairs(office) - 1)
-    return told_part(having, greatest_count(office), ("surely", "perhaps", "never"))
+    part, whole = pair_part(office, claim, thing)
+    return told_part(part, whole, ("surely", "perhaps", "never"))
 
 
 def sure_pairs(office):
@@ -64,6 +77,5 @@ def sure_pairs(office):
 
 def served(office, label):
     """Return "always", "sometimes" or "never", as a label has a pair in all, some or no greatest matches."""
-    whole = greatest_count(office)
-    having = whole - match_count(office.without(label), most_pairs(office))
-    return told_part(having, whole, ("always", "sometimes", "never"))
+    part, whole = served_part(office, label)
+    return told_part(part, whole, ("always", "sometimes", "never"))

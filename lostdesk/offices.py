@@ -173,3 +173,11 @@ def thing_of(office, label):
     if label not in things:
         raise UnknownLabel(f"no thing {label}")
     return things[label]
+
+
+def with_note(office, label, note):
+    """Return the office in which a thing or a claim has another note."""
+    if label in office.things:
+        return office.with_thing(label, Thing(note, office.things[label].day))
+    claim = claim_of(office, label)
+    return office.with_claim(label, Claim(note, claim.day, claim.slips, claim.worth))

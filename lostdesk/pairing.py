@@ -17,6 +17,15 @@ def plain_rows(office):
     ]
 
 
+def weighted_rows(office, weights):
+    """Return the rows of an office by a dict from the pairs that count to their weights."""
+    things = list(office.things)
+    return [
+        {number: weights[claim, thing] for number, thing in enumerate(things) if (claim, thing) in weights}
+        for claim in office.claims
+    ]
+
+
 def free_things(row, taken):
     """Return the things of a row that are not taken, ascending."""
     return [thing for thing in row if not taken >> thing & 1]
@@ -105,6 +114,61 @@ def all_choices(rows):
             for thing in best_steps(row, tables[claim], tables[claim + 1], taken)
         ]
     return [choice for choice, _ in found]
+
+
+def ways_on(steps, ways, taken):
+    """Return for each step what a table of ways tells of what is taken after it."""
+    return [ways[taken_after(taken, thing)] for thing in steps]
+
+
+class Numbering:
+    """The choices of the greatest weight, numbered from 0 in the order of their matches."""
+
+    def __init__(self, rows):
+        self._rows = rows
+        self._tables = best_tables(rows)
+        # For each claim and for the end, by what is taken: in how many ways it goes on without loss of weight.
+        self._ways = [[1] * len(self._tables[0])]
+        for claim in reversed(range(len(rows))):
+            behind = self._ways[0]
+            ways = [sum(ways_on(self.steps(claim, taken), behind, taken)) for taken in range(len(behind))]
+            self._ways = [ways] + self._ways
+
+    def steps(self, claim, taken):
+        """Return what a claim can get, if so much is taken, in the order of the matches."""
+        return best_steps(self._rows[claim], self._tables[claim], self._tables[claim + 1], taken)
+
+    def total(self):
+        """Return how many choices there are."""
+        return self._ways[0][0]
+
+    def choice_at(self, number):
+        """Return the choice with a number."""
+        choice = []
+        taken = 0
+        for claim in range(len(self._rows)):
+            steps = self.steps(claim, taken)
+            ways = ways_on(steps, self._ways[claim + 1], taken)
+            place = 0
+            while number >= ways[place]:
+                number -= ways[place]
+                place += 1
+            choice.append(steps[place])
+            taken = taken_after(taken, steps[place])
+        return choice
+
+    def place_of(self, choice):
+        """Return the number of a choice, or None if it is none of these."""
+        number = 0
+        taken = 0
+        for claim, thing in enumerate(choice):
+            steps = self.steps(claim, taken)
+            if thing not in steps:
+                return None
+            before = steps[:steps.index(thing)]
+            number += sum(ways_on(before, self._ways[claim + 1], taken))
+            taken = taken_after(taken, thing)
+        return number
 
 
 def as_match(office, choice):

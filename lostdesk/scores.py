@@ -1,7 +1,7 @@
 """Scores: what pairs and matches count, and prices that show that no match counts more."""
 
-from lostdesk.errors import InvalidPrices, NotEnough, NotFitting
-from lostdesk.fitting import candidates, fits, misfits
+from lostdesk.errors import InvalidPrices, NotEnough
+from lostdesk.fitting import candidates, check_fits, misfits
 from lostdesk.offices import claim_of, in_range
 from lostdesk.pairing import as_match, best_tables, first_choice, plain_rows
 
@@ -12,8 +12,7 @@ HIGHEST_PRICE = 10 ** 12
 
 def score(office, claim, thing):
     """Return the score of a pair: the claim's worth for each feature that is no misfit."""
-    if not fits(office, claim, thing):
-        raise NotFitting(f"{thing} does not fit {claim}")
+    check_fits(office, claim, thing)
     return claim_of(office, claim).worth * (len(office.catalog) - len(misfits(office, claim, thing)))
 
 

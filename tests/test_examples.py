@@ -157,6 +157,102 @@ raises InvalidOrder(index=2)
 [['ann', 'bob'], [(0, 0), (3, 1), (5, 2), (6, 1), (8, 0)], 5, (3, 0), (1, 2)]
 """,
     ],
+    "questions": [
+        """
+>>> from lostdesk.catalogs import Catalog
+>>> from lostdesk.notes import Note
+>>> from lostdesk.offices import Claim, Office, Thing
+>>> from lostdesk.questions import answered, fewest_questions, next_question, possible_answers
+>>> catalog = Catalog((("color", ("blue", "red")), ("size", ("big", "small"))))
+>>> red = Note(catalog, {"color": ("red",)})
+>>> plain = Note(catalog, {})
+>>> office = Office(catalog, {"bag": Thing(red, 3), "hat": Thing(plain, 5)}, {"ann": Claim(red, 2), "bo": Claim(plain, 1, 0, 4)})
+>>> asked = ("thing", "hat", "color")
+>>> later = answered(office, asked, "blue")
+>>> [possible_answers(office, asked), later.things["hat"].note["color"], next_question(office, [asked]), fewest_questions(office, [asked], "ann", "bag")]
+[('blue', 'red'), ('blue',), 0, None]
+""",
+        """
+>>> from lostdesk.catalogs import Catalog
+>>> from lostdesk.notes import Note
+>>> from lostdesk.offices import Claim, Office, Thing
+>>> from lostdesk.questions import next_question
+>>> catalog = Catalog((("color", ("blue", "red")), ("size", ("big", "small"))))
+>>> red = Note(catalog, {"color": ("red",)})
+>>> plain = Note(catalog, {})
+>>> office = Office(catalog, {"bag": Thing(red, 3), "hat": Thing(plain, 5)}, {"ann": Claim(red, 2), "bo": Claim(plain, 1, 0, 4)})
+>>> next_question(office, [("claim", "bo", "size"), ("claim", "hat", "size")])
+raises InvalidQuestion(index=1)
+""",
+    ],
+    "falsehoods": [
+        """
+>>> from lostdesk.catalogs import Catalog
+>>> from lostdesk.notes import Note
+>>> from lostdesk.offices import Claim, Office, Thing
+>>> from lostdesk.falsehoods import cheapest_false, doubtful, false_sets
+>>> catalog = Catalog((("color", ("blue", "red")), ("size", ("big", "small"))))
+>>> red = Note(catalog, {"color": ("red",)})
+>>> plain = Note(catalog, {})
+>>> office = Office(catalog, {"bag": Thing(red, 3)}, {"ann": Claim(red, 2, 0, 5), "bo": Claim(plain, 1, 0, 4), "cy": Claim(red, 9)})
+>>> [false_sets(office), cheapest_false(office), doubtful(office)]
+[[('ann', 'cy'), ('bo', 'cy')], (5, ('bo', 'cy')), ['ann', 'bo']]
+""",
+    ],
+    "shares": [
+        """
+>>> from lostdesk.catalogs import Catalog
+>>> from lostdesk.notes import Note
+>>> from lostdesk.offices import Claim, Office, Thing
+>>> from lostdesk.shares import match_at, number_of, pair_share, served_share
+>>> catalog = Catalog((("color", ("blue", "red")), ("size", ("big", "small"))))
+>>> red = Note(catalog, {"color": ("red",)})
+>>> plain = Note(catalog, {})
+>>> office = Office(catalog, {"bag": Thing(red, 3), "hat": Thing(plain, 5)}, {"ann": Claim(red, 2), "bo": Claim(plain, 1, 0, 4)})
+>>> [match_at(office, 1), number_of(office, {"ann": "bag", "bo": "hat"}), pair_share(office, "ann", "bag"), served_share(office, "hat")]
+[{'ann': 'hat', 'bo': 'bag'}, 0, (1, 2), (1, 1)]
+""",
+        """
+>>> from lostdesk.catalogs import Catalog
+>>> from lostdesk.notes import Note
+>>> from lostdesk.offices import Claim, Office, Thing
+>>> from lostdesk.shares import number_of
+>>> catalog = Catalog((("color", ("blue", "red")), ("size", ("big", "small"))))
+>>> red = Note(catalog, {"color": ("red",)})
+>>> plain = Note(catalog, {})
+>>> office = Office(catalog, {"bag": Thing(red, 3), "hat": Thing(plain, 5)}, {"ann": Claim(red, 2), "bo": Claim(plain, 1, 0, 4)})
+>>> number_of(office, {"ann": "bag"})
+raises InvalidMatch()
+""",
+    ],
+    "branches": [
+        """
+>>> from lostdesk.catalogs import Catalog
+>>> from lostdesk.notes import Note
+>>> from lostdesk.offices import Claim, Office, Thing
+>>> from lostdesk.branches import days_apart, joined, meeting_day, travel_match
+>>> catalog = Catalog((("color", ("blue", "red")), ("size", ("big", "small"))))
+>>> red = Note(catalog, {"color": ("red",)})
+>>> plain = Note(catalog, {})
+>>> here = Office(catalog, {"bag": Thing(red, 3)}, {"ann": Claim(red, 2)})
+>>> there = Office(catalog, {"hat": Thing(plain, 5)}, {"bo": Claim(plain, 1)})
+>>> offices, travel = (here, there), ((0, 4), (2, 0))
+>>> [list(joined(offices).claims), travel_match(offices, travel), meeting_day(offices, travel, "ann", "hat"), days_apart(offices, travel)]
+[['ann', 'bo'], (0, {'ann': 'bag', 'bo': 'hat'}), 7, 4]
+""",
+        """
+>>> from lostdesk.catalogs import Catalog
+>>> from lostdesk.notes import Note
+>>> from lostdesk.offices import Claim, Office, Thing
+>>> from lostdesk.branches import joined
+>>> catalog = Catalog((("color", ("blue", "red")), ("size", ("big", "small"))))
+>>> red = Note(catalog, {"color": ("red",)})
+>>> plain = Note(catalog, {})
+>>> office = Office(catalog, {"bag": Thing(red, 3), "hat": Thing(plain, 5)}, {"ann": Claim(red, 2), "bo": Claim(plain, 1, 0, 4)})
+>>> joined((office, office))
+raises InvalidOffices(index=1)
+""",
+    ],
 }
 
 

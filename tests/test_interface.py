@@ -21,6 +21,10 @@ FUNCTIONS = {
     "groups": ["short_group", "shown_group"],
     "handing": ["handed", "score_loss", "pair_loss", "lossless", "in_turn", "worst_order", "best_order"],
     "days": ["open_on", "changes", "first_day", "served_days", "paired_days"],
+    "questions": ["possible_answers", "answered", "next_question", "fewest_questions"],
+    "falsehoods": ["false_sets", "cheapest_false", "doubtful"],
+    "shares": ["match_at", "number_of", "pair_share", "served_share"],
+    "branches": ["joined", "travel_match", "meeting_day", "days_apart"],
 }
 PARAMETERS = {
     ("catalogs", "Catalog"): ["features"],
@@ -65,6 +69,21 @@ PARAMETERS = {
     ("days", "first_day"): ["office", "terms", "number"],
     ("days", "served_days"): ["office", "terms", "label"],
     ("days", "paired_days"): ["office", "terms", "claim", "thing"],
+    ("questions", "possible_answers"): ["office", "question"],
+    ("questions", "answered"): ["office", "question", "value"],
+    ("questions", "next_question"): ["office", "questions"],
+    ("questions", "fewest_questions"): ["office", "questions", "claim", "thing"],
+    ("falsehoods", "false_sets"): ["office"],
+    ("falsehoods", "cheapest_false"): ["office"],
+    ("falsehoods", "doubtful"): ["office"],
+    ("shares", "match_at"): ["office", "number"],
+    ("shares", "number_of"): ["office", "match"],
+    ("shares", "pair_share"): ["office", "claim", "thing"],
+    ("shares", "served_share"): ["office", "label"],
+    ("branches", "joined"): ["offices"],
+    ("branches", "travel_match"): ["offices", "travel"],
+    ("branches", "meeting_day"): ["offices", "travel", "claim", "thing"],
+    ("branches", "days_apart"): ["offices", "travel"],
 }
 
 
