@@ -64,37 +64,40 @@ class Inquiry:
         self._claim = claim
         self._thing = thing
         # By what is told: the same answers come in different orders.
-        self._fewest = {}
+        self._judged = {}
 
     def is_judged(self, told):
         """Tell whether what is told is enough to judge the pair."""
-        office = self._office
-        for question, value in zip(self._questions, told):
-            if value is not None:
-                office = answered(office, question, value)
-        return judge(office, self._claim, self._thing) != "perhaps"
+        if told not in self._judged:
+            office = self._office
+            for question, value in zip(self._questions, told):
+                if value is not None:
+                    office = answered(office, question, value)
+            self._judged[told] = judge(office, self._claim, self._thing) != "perhaps"
+        return self._judged[told]
 
-    def fewest(self, told):
-        """Return how many more questions have to be asked in the worst case, or None if all are not enough."""
-        if told not in self._fewest:
-            counts = [0]
-            if not self.is_judged(told):
-                counts = [self.count_with(told, place) for place, value in enumerate(told) if value is None]
-            self._fewest[told] = min([count for count in counts if count is not None], default=None)
-        return self._fewest[told]
+    def is_enough(self, told, number):
+        """Tell whether so many more questions are enough, whatever the answers are."""
+        if self.is_judged(told):
+            return True
+        for place, value in enumerate(told):
+            if number > 0 and value is None and self.is_enough_with(told, number, place):
+                return True
+        return False
 
-    def count_with(self, told, place):
-        """Return how many more have to be asked in the worst case if one is asked first, or None likewise."""
-        worst = 0
+    def is_enough_with(self, told, number, place):
+        """Tell whether so many more questions are enough if a certain one is asked first."""
         for value in possible_answers(self._office, self._questions[place]):
-            more = self.fewest(told[:place] + (value,) + told[place + 1:])
-            if more is None:
-                return None
-            worst = max(worst, more)
-        return worst + 1
+            if not self.is_enough(told[:place] + (value,) + told[place + 1:], number - 1):
+                return False
+        return True
 
 
 def fewest_questions(office, questions, claim, thing):
     """Return how many of the questions have to be asked in the worst case until a pair is judged, or None."""
     check_questions(office, questions)
-    return Inquiry(office, questions, claim, thing).fewest((None,) * len(questions))
+    inquiry = Inquiry(office, questions, claim, thing)
+    for number in range(len(questions) + 1):
+        if inquiry.is_enough((None,) * len(questions), number):
+            return number
+    return None
