@@ -63,6 +63,11 @@ class FalseSetsTest(unittest.TestCase):
         for office in drawn_offices(100) + [drawn_graph(random, 6) for _ in range(80)]:
             self.check_sets(office, wanted_sets(office))
 
+    def test_a_least_set_is_never_larger_than_another(self):
+        random = Random(12)
+        for office in drawn_offices(60) + [drawn_graph(random, 6) for _ in range(60)]:
+            self.assertEqual(len({len(labels) for labels in false_sets(office)}), 1)
+
 
 class CheapestFalseTest(unittest.TestCase):
     def test_none_is_false(self):
