@@ -42,12 +42,12 @@ def lossless(office):
 
 
 def takers(fitting, order):
-    """Return a dict from things to the claims that take them, one after another, each the least that is left."""
+    """Return a dict from what is taken to who takes it: all of an order, in turn, take the first that is left."""
     taken = {}
-    for claim in order:
-        left = [thing for thing in fitting[claim] if thing not in taken]
+    for taker in order:
+        left = [label for label in fitting[taker] if label not in taken]
         if len(left) > 0:
-            taken[left[0]] = claim
+            taken[left[0]] = taker
     return taken
 
 

@@ -175,6 +175,11 @@ def thing_of(office, label):
     return things[label]
 
 
+def note_of(office, label):
+    """Return the note of a thing or a claim."""
+    return thing_of(office, label).note if label in office.things else claim_of(office, label).note
+
+
 def with_note(office, label, note):
     """Return the office in which a thing or a claim has another note."""
     if label in office.things:

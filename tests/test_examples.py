@@ -253,6 +253,75 @@ raises InvalidMatch()
 raises InvalidOffices(index=1)
 """,
     ],
+    "arrivals": [
+        """
+>>> from lostdesk.catalogs import Catalog
+>>> from lostdesk.notes import Note
+>>> from lostdesk.offices import Claim, Office, Thing
+>>> from lostdesk.arrivals import fewest_at_once, good_order, handed_at_once, worst_arrival
+>>> catalog = Catalog((("color", ("blue", "red")), ("size", ("big", "small"))))
+>>> red = Note(catalog, {"color": ("red",)})
+>>> plain = Note(catalog, {})
+>>> blue = Note(catalog, {"color": ("blue",)})
+>>> office = Office(catalog, {"bag": Thing(blue, 3), "hat": Thing(red, 5)}, {"ann": Claim(plain, 2), "bo": Claim(red, 1)})
+>>> [handed_at_once(office, ("hat", "bag")), fewest_at_once(office), worst_arrival(office), good_order(office)]
+[{'ann': 'hat'}, 1, ('hat', 'bag'), ('bag', 'hat')]
+""",
+        """
+>>> from lostdesk.catalogs import Catalog
+>>> from lostdesk.notes import Note
+>>> from lostdesk.offices import Claim, Office, Thing
+>>> from lostdesk.arrivals import handed_at_once
+>>> catalog = Catalog((("color", ("blue", "red")), ("size", ("big", "small"))))
+>>> red = Note(catalog, {"color": ("red",)})
+>>> plain = Note(catalog, {})
+>>> office = Office(catalog, {"bag": Thing(red, 3), "hat": Thing(plain, 5)}, {"ann": Claim(red, 2), "bo": Claim(plain, 1, 0, 4)})
+>>> handed_at_once(office, ("hat", "cap"))
+raises InvalidOrder(index=1)
+""",
+    ],
+    "desks": [
+        """
+>>> from lostdesk.catalogs import Catalog
+>>> from lostdesk.notes import Note
+>>> from lostdesk.offices import Claim, Office, Thing
+>>> from lostdesk.desks import Desk
+>>> catalog = Catalog((("color", ("blue", "red")), ("size", ("big", "small"))))
+>>> red = Note(catalog, {"color": ("red",)})
+>>> plain = Note(catalog, {})
+>>> desk = Desk(catalog)
+>>> told = desk.apply_all([("find", "bag", Thing(red, 3)), ("lose", "ann", Claim(red, 2)), ("mark", "x"), ("hand", "ann", "bag"), ("go", "x")])
+>>> [told, desk.undo(), list(desk.office().claims), desk.marks, desk.open_claims(), len(desk.history)]
+[[0, 1, False, 1, 1], True, [], ['x'], [], 4]
+""",
+        """
+>>> from lostdesk.catalogs import Catalog
+>>> from lostdesk.notes import Note
+>>> from lostdesk.offices import Claim, Office, Thing
+>>> from lostdesk.desks import Desk
+>>> catalog = Catalog((("color", ("blue", "red")), ("size", ("big", "small"))))
+>>> red = Note(catalog, {"color": ("red",)})
+>>> plain = Note(catalog, {})
+>>> Desk(catalog).apply_all([("undo",), ("drop",)])
+raises InvalidOperation(index=1)
+""",
+    ],
+    "owners": [
+        """
+>>> from lostdesk.catalogs import Catalog
+>>> from lostdesk.notes import Note
+>>> from lostdesk.offices import Claim, Office, Thing
+>>> from lostdesk.owners import Owners
+>>> catalog = Catalog((("color", ("blue", "red")), ("size", ("big", "small"))))
+>>> red = Note(catalog, {"color": ("red",)})
+>>> plain = Note(catalog, {})
+>>> small = Note(catalog, {"size": ("small",)})
+>>> office = Office(catalog, {"hat": Thing(plain, 5)}, {"ann": Claim(red, 2), "bo": Claim(small, 1), "cy": Claim(red, 5)})
+>>> owners = Owners(office, "hat")
+>>> [owners.remaining, owners.telling(["color", "size"]), owners.see("color", "blue"), owners.remaining, owners.thing_note()["color"]]
+[('ann', 'bo', 'cy'), 'color', 1, ('bo',), ('blue',)]
+""",
+    ],
 }
 
 

@@ -13,6 +13,22 @@ CLASSES = {
         "Office": ["catalog", "things", "claims", "with_thing", "with_claim", "without", "__contains__", "__eq__"],
     },
     "days": {"Terms": ["keep", "wait"]},
+    "desks": {
+        "Desk": ["find", "lose", "hand", "narrow", "go", "drop", "mark", "undo", "redo", "office", "open_claims",
+                 "apply_all", "tried", "replay", "marks", "history"],
+        "Trial": ["__enter__", "__exit__", "hold"],
+    },
+    "owners": {"Owners": ["see", "deny", "telling", "thing_note", "remaining"]},
+}
+PROPERTIES = {
+    "Catalog": ["features", "names"],
+    "Note": ["catalog", "description_count"],
+    "Thing": ["note", "day"],
+    "Claim": ["note", "day", "slips", "worth"],
+    "Office": ["catalog", "things", "claims"],
+    "Terms": ["keep", "wait"],
+    "Desk": ["marks", "history"],
+    "Owners": ["remaining"],
 }
 FUNCTIONS = {
     "fitting": ["misfits", "fits", "shared_count", "candidates", "lonely", "rivals"],
@@ -25,6 +41,7 @@ FUNCTIONS = {
     "falsehoods": ["false_sets", "cheapest_false", "doubtful"],
     "shares": ["match_at", "number_of", "pair_share", "served_share"],
     "branches": ["joined", "travel_match", "meeting_day", "days_apart"],
+    "arrivals": ["handed_at_once", "fewest_at_once", "worst_arrival", "good_order"],
 }
 PARAMETERS = {
     ("catalogs", "Catalog"): ["features"],
@@ -84,6 +101,32 @@ PARAMETERS = {
     ("branches", "travel_match"): ["offices", "travel"],
     ("branches", "meeting_day"): ["offices", "travel", "claim", "thing"],
     ("branches", "days_apart"): ["offices", "travel"],
+    ("arrivals", "handed_at_once"): ["office", "order"],
+    ("arrivals", "fewest_at_once"): ["office"],
+    ("arrivals", "worst_arrival"): ["office"],
+    ("arrivals", "good_order"): ["office"],
+    ("desks", "Desk"): ["catalog"],
+    ("desks", "Desk.find"): ["label", "thing"],
+    ("desks", "Desk.lose"): ["label", "claim"],
+    ("desks", "Desk.hand"): ["claim", "thing"],
+    ("desks", "Desk.narrow"): ["label", "feature", "value"],
+    ("desks", "Desk.drop"): ["label"],
+    ("desks", "Desk.mark"): ["name"],
+    ("desks", "Desk.go"): ["name"],
+    ("desks", "Desk.undo"): [],
+    ("desks", "Desk.redo"): [],
+    ("desks", "Desk.office"): [],
+    ("desks", "Desk.open_claims"): [],
+    ("desks", "Desk.apply_all"): ["operations"],
+    ("desks", "Desk.tried"): ["operations", "keep"],
+    ("desks", "Desk.replay"): ["cls", "catalog", "operations"],
+    ("desks", "Trial"): ["desk"],
+    ("desks", "Trial.hold"): [],
+    ("owners", "Owners"): ["office", "thing"],
+    ("owners", "Owners.see"): ["feature", "value"],
+    ("owners", "Owners.deny"): ["claim"],
+    ("owners", "Owners.thing_note"): [],
+    ("owners", "Owners.telling"): ["features"],
 }
 
 
@@ -106,6 +149,14 @@ class InterfaceTest(unittest.TestCase):
                 with self.subTest(module=module, name=name):
                     self.assertIsInstance(found.get(name), ast.ClassDef)
                     self.assertLessEqual(set(members), set(defined(found[name].body)))
+
+    def test_just_what_is_listed_as_a_property_is_one(self):
+        for module, classes in CLASSES.items():
+            for name, members in classes.items():
+                made = getattr(importlib.import_module(f"lostdesk.{module}"), name)
+                with self.subTest(module=module, name=name):
+                    found = [member for member in members if isinstance(vars(made)[member], property)]
+                    self.assertEqual(sorted(found), sorted(PROPERTIES.get(name, [])))
 
     def test_functions_stand_in_their_files(self):
         for module, names in FUNCTIONS.items():
