@@ -66,3 +66,8 @@ class Note:
 
     def __eq__(self, other):
         return isinstance(other, Note) and self._catalog == other._catalog and self._values == other._values
+
+
+def told_names(note):
+    """Return the list of the features, in the order of the catalog, that cannot have all their values."""
+    return [name for name, values in note.catalog.features if note[name] != values]

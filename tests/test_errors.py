@@ -48,6 +48,10 @@ class ErrorsTest(unittest.TestCase):
                 self.assertEqual(error_class.__module__, "lostdesk.errors")
                 self.assertEqual(error_class.__name__, name)
 
+    def test_no_other_errors(self):
+        found = [name for name, value in vars(errors).items() if isinstance(value, type)]
+        self.assertEqual(sorted(found), sorted(["DeskError", *ATTRIBUTES]))
+
     def test_attributes_are_set_when_the_error_is_created(self):
         for name, attributes in ATTRIBUTES.items():
             with self.subTest(name=name):

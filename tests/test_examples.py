@@ -322,6 +322,72 @@ raises InvalidOperation(index=1)
 [('ann', 'bo', 'cy'), 'color', 1, ('bo',), ('blue',)]
 """,
     ],
+    "notation": [
+        r"""
+>>> from lostdesk.catalogs import Catalog
+>>> from lostdesk.notes import Note
+>>> from lostdesk.offices import Claim, Office, Thing
+>>> from lostdesk.notation import format_office, parse_office
+>>> catalog = Catalog((("color", ("blue", "red")), ("size", ("big", "small"))))
+>>> red = Note(catalog, {"color": ("red",)})
+>>> plain = Note(catalog, {})
+>>> office = Office(catalog, {"bag": Thing(red, 3)}, {"ann": Claim(plain, 2, 1, 9)})
+>>> text = format_office(office)
+>>> [text, parse_office(text) == office]
+['feature color blue red\nfeature size big small\nthing bag 3\nis color red\nclaim ann 2 1 9', True]
+""",
+        r"""
+>>> from lostdesk.notation import parse_office
+>>> parse_office("feature color blue red\nthing bag 3\nis color green")
+raises InvalidText(row=2, word=2)
+""",
+    ],
+    "tables": [
+        r"""
+>>> from lostdesk.catalogs import Catalog
+>>> from lostdesk.notes import Note
+>>> from lostdesk.offices import Claim, Office, Thing
+>>> from lostdesk.tables import table
+>>> catalog = Catalog((("color", ("blue", "red")), ("size", ("big", "small"))))
+>>> red = Note(catalog, {"color": ("red",)})
+>>> plain = Note(catalog, {})
+>>> office = Office(catalog, {"bag": Thing(red, 3), "hat": Thing(plain, 5)}, {"ann": Claim(red, 2), "bo": Claim(plain, 1, 0, 4)})
+>>> table(office)
+'ann: may may\nbo: may may'
+""",
+    ],
+    "codec": [
+        """
+>>> from lostdesk.catalogs import Catalog
+>>> from lostdesk.notes import Note
+>>> from lostdesk.offices import Claim, Office, Thing
+>>> from lostdesk.codec import decode_office, encode_office
+>>> catalog = Catalog((("color", ("blue", "red")), ("size", ("big", "small"))))
+>>> red = Note(catalog, {"color": ("red",)})
+>>> plain = Note(catalog, {})
+>>> code = encode_office(Office(Catalog((("a", ("b", "c")),)), {}, {"d": Claim(Note(Catalog((("a", ("b", "c")),)), {}), 256)}))
+>>> [code, list(decode_office(code).claims)]
+[[108, 1, 1, 1, 2, 1, 2, 1, 3, 0, 1, 1, 4, 2, 1, 0, 0, 1, 1, 0, 36], ['d']]
+""",
+        """
+>>> from lostdesk.codec import decode_office
+>>> decode_office([108, 1, 1, 27])
+raises DecodeError(offset=3)
+""",
+    ],
+    "daybooks": [
+        r"""
+>>> from lostdesk.daybooks import Daybook
+>>> book = Daybook("feature color blue red\nfind bag 3\nfind hat 4\nlose ann 2 0 1\nshare ann bag\nnarrow ann color red\nhand ann hat\nmost\nopen")
+>>> [book.results, list(book.desk().office().things)]
+['1/2\n0\n-', ['bag']]
+""",
+        r"""
+>>> from lostdesk.daybooks import Daybook
+>>> Daybook("feature color blue red\nfind bag 3\ndrop hat")
+raises DaybookError(row=2, word=0)
+""",
+    ],
 }
 
 

@@ -19,6 +19,7 @@ CLASSES = {
         "Trial": ["__enter__", "__exit__", "hold"],
     },
     "owners": {"Owners": ["see", "deny", "telling", "thing_note", "remaining"]},
+    "daybooks": {"Daybook": ["desk", "results"]},
 }
 PROPERTIES = {
     "Catalog": ["features", "names"],
@@ -29,6 +30,7 @@ PROPERTIES = {
     "Terms": ["keep", "wait"],
     "Desk": ["marks", "history"],
     "Owners": ["remaining"],
+    "Daybook": ["results"],
 }
 FUNCTIONS = {
     "fitting": ["misfits", "fits", "shared_count", "candidates", "lonely", "rivals"],
@@ -42,6 +44,9 @@ FUNCTIONS = {
     "shares": ["match_at", "number_of", "pair_share", "served_share"],
     "branches": ["joined", "travel_match", "meeting_day", "days_apart"],
     "arrivals": ["handed_at_once", "fewest_at_once", "worst_arrival", "good_order"],
+    "notation": ["format_office", "parse_office"],
+    "tables": ["table"],
+    "codec": ["encode_office", "decode_office"],
 }
 PARAMETERS = {
     ("catalogs", "Catalog"): ["features"],
@@ -127,6 +132,13 @@ PARAMETERS = {
     ("owners", "Owners.deny"): ["claim"],
     ("owners", "Owners.thing_note"): [],
     ("owners", "Owners.telling"): ["features"],
+    ("notation", "format_office"): ["office"],
+    ("notation", "parse_office"): ["text"],
+    ("tables", "table"): ["office"],
+    ("codec", "encode_office"): ["office"],
+    ("codec", "decode_office"): ["values"],
+    ("daybooks", "Daybook"): ["text"],
+    ("daybooks", "Daybook.desk"): [],
 }
 
 
